@@ -1,0 +1,1 @@
+"""Lookon: observers of a document tree."""

@@ -1,0 +1,59 @@
+"""Every name of the interface exists where it is listed, with its arguments."""
+
+import importlib
+import inspect
+import unittest
+
+FUNCTIONS = {
+    "names": {"is_name": "value", "is_plain": "value", "is_number": "value", "are_ascending": "names"},
+    "shapes": {
+        "is_shape": "value", "numbers_of": "shape", "children_of": "shape", "find": "shape, number",
+        "parent_of": "shape, number", "way_to": "shape, number", "following": "shape, number",
+        "mark_of": "shape, name", "replaced": "shape, number, new", "without_child": "shape, number",
+        "with_child": "shape, new, before", "with_mark": "shape, name, value"},
+    "views": {"are_options": "value", "check_options": "options", "view": "shape, options", "bare": "shape",
+              "is_wider": "options, other", "wants_mark": "options, name"},
+    "treetexts": {"format_tree": "shape", "parse_tree": "text, first=0"},
+    "watching": {"told": "change, node, options"},
+}
+CLASSES = {
+    "documents": {"Document": {
+        "__init__": "self", "element": "self, name", "text": "self, text",
+        "insert": "self, parent, child, before=None", "remove": "self, child", "mark": "self, number, name, value",
+        "unmark": "self, number, name", "write": "self, number, text", "shape": "self, number=0",
+        "parent": "self, number", "children": "self, number", "above": "self, number", "nodes": "self",
+        "changes": "self, start=0"}},
+    "watching": {"Watch": {
+        "__init__": "self, document", "observe": "self, node, options", "view": "self, number",
+        "take": "self, number", "pause": "self"}},
+    "errors": {
+        "LookError": {}, "InvalidArgument": {"__init__": "self, name"}, "NoSuchNode": {"__init__": "self, number"},
+        "NoSuchObserver": {"__init__": "self, number"}, "RefusedError": {"__init__": "self, reason"},
+        "BadRecord": {"__init__": "self, place"}, "BadText": {"__init__": "self, place"},
+        "BadQuery": {"__init__": "self, place"}},
+}
+
+
+class InterfaceTest(unittest.TestCase):
+    def check(self, module, thing, name, arguments):
+        self.assertTrue(inspect.isfunction(thing), name)
+        self.assertEqual(thing.__module__, module.__name__, name)
+        self.assertEqual(str(inspect.signature(thing)), f"({arguments})", name)
+
+    def test_functions(self):
+        for word, functions in FUNCTIONS.items():
+            module = importlib.import_module("lookon." + word)
+            for name, arguments in functions.items():
+                self.check(module, getattr(module, name), name, arguments)
+
+    def test_classes(self):
+        for word, classes in CLASSES.items():
+            module = importlib.import_module("lookon." + word)
+            for name, methods in classes.items():
+                self.assertEqual(getattr(module, name).__module__, module.__name__)
+                for method, arguments in methods.items():
+                    self.check(module, vars(getattr(module, name))[method], method, arguments)
+
+
+if __name__ == "__main__":
+    unittest.main()
