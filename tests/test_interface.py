@@ -2,7 +2,12 @@
 
 import importlib
 import inspect
+import subprocess
+import sys
 import unittest
+from pathlib import Path
+
+TOP = Path(__file__).resolve().parent.parent
 
 FUNCTIONS = {
     "names": {"is_name": "value", "is_plain": "value", "is_number": "value", "are_ascending": "names"},
@@ -15,6 +20,9 @@ FUNCTIONS = {
               "is_wider": "options, other", "wants_mark": "options, name"},
     "treetexts": {"format_tree": "shape", "parse_tree": "text, first=0"},
     "watching": {"told": "change, node, options"},
+    "rebuilding": {"rebuild": "whole, records"},
+    "narrowing": {"narrowed": "first, wide, records, node, options"},
+    "reversing": {"undone": "first, records"},
 }
 CLASSES = {
     "documents": {"Document": {
@@ -26,6 +34,7 @@ CLASSES = {
     "watching": {"Watch": {
         "__init__": "self, document", "observe": "self, node, options", "view": "self, number",
         "take": "self, number", "pause": "self"}},
+    "rebuilding": {"Mirror": {"__init__": "self, first", "apply": "self, records", "view": "self"}},
     "errors": {
         "LookError": {}, "InvalidArgument": {"__init__": "self, name"}, "NoSuchNode": {"__init__": "self, number"},
         "NoSuchObserver": {"__init__": "self, number"}, "RefusedError": {"__init__": "self, reason"},
@@ -53,6 +62,11 @@ class InterfaceTest(unittest.TestCase):
                 self.assertEqual(getattr(module, name).__module__, module.__name__)
                 for method, arguments in methods.items():
                     self.check(module, vars(getattr(module, name))[method], method, arguments)
+
+    def test_each_part_alone(self):
+        for word in sorted({*FUNCTIONS, *CLASSES}):
+            done = subprocess.run([sys.executable, "-B", "-c", f"import lookon.{word}"], cwd=TOP, capture_output=True)
+            self.assertEqual((done.returncode, done.stderr), (0, b""), word)
 
 
 if __name__ == "__main__":

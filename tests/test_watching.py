@@ -3,12 +3,12 @@ import unittest
 from itertools import product
 
 from lookon.documents import Document
-from lookon.errors import InvalidArgument, NoSuchNode, NoSuchObserver, RefusedError
+from lookon.errors import InvalidArgument, NoSuchNode, NoSuchObserver
 from lookon.shapes import find, replaced, with_child, with_mark, without_child
 from lookon.views import EVERYTHING, view
 from lookon.watching import Watch, told
+from samples import SCOPES, chance_document, edit
 
-SCOPES = ("own", "list", "all")
 NO_OPTIONS = (None, (), ["all", None, True], ("none", None, True), ("all", [], True), ("all", ("b", "a"), True),
               ("all", ("a", "a"), True), ("all", ("A",), True), ("all", None, 1), ("all", True, True), ("all", None))
 
@@ -321,24 +321,11 @@ class KnowingTest(unittest.TestCase):
             new = ("t", record[1], record[2])
         return replaced(shape, record[1], new)
 
-    def edit(self, chance, document):
-        number, other = chance.randrange(document.nodes()), chance.randrange(document.nodes())
-        name, text = chance.choice("abc"), chance.choice(("", "1", "2"))
-        edits = (("insert", number, other, chance.choice(document.children(number) + [None])), ("remove", number),
-                 ("mark", number, name, text), ("unmark", number, name), ("write", number, text))
-        method, *arguments = edits[chance.choice((0, 0, 0, 1, 2, 2, 3, 4, 4))]
-        try:
-            getattr(document, method)(*arguments)
-        except RefusedError:
-            pass
-
     def test_many_edits(self):
         chance = random.Random(28)
         choices = list(product(SCOPES, (None, (), ("a",), ("a", "c")), (True, False)))
         for _ in range(10):
-            document, known = Document(), []
-            for _ in range(14):
-                document.text("") if chance.random() < 0.4 else document.element("a")
+            document, known = chance_document(chance, 15), []
             watch = Watch(document)
             for node in range(15):
                 for options in chance.sample(choices, 6):
@@ -346,7 +333,7 @@ class KnowingTest(unittest.TestCase):
                     known.append(view(document.shape(node), options))
             for _ in range(20):
                 for _ in range(chance.randrange(8)):
-                    self.edit(chance, document)
+                    edit(chance, document)
                 for number, records in watch.pause():
                     for record in records:
                         known[number] = self.behind(known[number], record)
