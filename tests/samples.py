@@ -1,7 +1,8 @@
-"""What several tests need: a view with records that fit it or not, and chance edits of a document."""
+"""What several tests need: a view with records that fit it or not, tests of queries, and all of these by chance."""
 
 from lookon.documents import Document
 from lookon.errors import RefusedError
+from lookon.shapes import children_of, parts_of
 
 SCOPES = ("own", "list", "all")
 
@@ -135,3 +136,82 @@ def edit(chance, document):
         getattr(document, method)(*arguments)
     except RefusedError:
         pass
+
+
+LEAVES = (("any",), ("name", "a"), ("name", "b"), ("mark", "m"), ("mark", "n"), ("value", "m", "1"), ("value", "n", "2"),
+          ("text", "s"), ("text", ""), ("first",))
+FORWARD_LEAVES = (("last",), ("empty",))
+JOINS = ("not", "both", "one")
+BACK = ("under", "in", "next", "behind")
+FORWARD = ("over", "has")
+
+
+def chance_test(chance, depth, leaves=LEAVES + FORWARD_LEAVES, words=JOINS + BACK + FORWARD):
+    """A test that is at most so deep."""
+    if depth == 1 or chance.random() < 0.25:
+        return chance.choice(leaves)
+    word = chance.choice(words)
+    many = chance.choice((2, 2, 3, 4)) if word in ("both", "one") else 1
+    parts = tuple(chance_test(chance, depth - 1, leaves, words) for _ in range(many))
+    return (word, parts) if word in ("both", "one") else (word, parts[0])
+
+
+def chance_shape(chance, many, first=0):
+    """A shape of so many nodes with an element as its root, its numbers from the first one on in any order."""
+    numbers = chance.sample(range(first, first + many), many)
+
+    def grown(left, is_root):
+        if left == 1 and not is_root and chance.random() < 0.4:
+            return ("t", numbers.pop(), chance.choice(("s", "", "other")))
+        marks = tuple((name, chance.choice("123")) for name in "mno" if chance.random() < 0.4)
+        number, children, left = numbers.pop(), [], left - 1
+        while left:
+            size = chance.randint(1, left)
+            children.append(grown(size, False))
+            left -= size
+        return ("e", number, chance.choice("abc"), marks, tuple(children))
+    return grown(many, True)
+
+
+def chance_record(chance, whole):
+    """A record that fits a view."""
+    target = chance.choice(parts_of(whole))
+    if target[0] == "t":
+        return ("text", target[1], chance.choice(("s", "", "other", "new")))
+    word = chance.choice(("mark", "put", "out") if target[4] else ("mark", "put"))
+    if word == "mark":
+        return ("mark", target[1], chance.choice("mno"), chance.choice((None, "1", "2", "3")))
+    below = [child[1] for child in target[4]]
+    if word == "out":
+        return ("out", target[1], chance.choice(below))
+    free = 1 + max(part[1] for part in parts_of(whole))
+    text = ("t", free, chance.choice(("s", "", "other")))
+    child = text if chance.random() < 0.5 else chance_shape(chance, chance.randint(1, 3), free)
+    return ("put", target[1], child, chance.choice(below + [None]))
+
+
+def slow_answer(whole, test):
+    """The answer, found for each element by itself just as the table of point 12 tells."""
+    ways = {whole[1]: (None, [whole])}
+    for part in parts_of(whole):
+        beside = [child for child in children_of(part) if child[0] == "e"]
+        ways.update((child[1], (part, beside)) for child in beside)
+
+    def fulfils(part, test):
+        word, (parent, beside) = test[0], ways[part[1]]
+        at, inner = beside.index(part), [child for child in part[4] if child[0] == "e"]
+        above = [parent] if parent else []
+        while above and ways[above[-1][1]][0]:
+            above.append(ways[above[-1][1]][0])
+        below = [each for each in parts_of(part)[1:] if each[0] == "e"]
+        others = {"under": above[:1], "in": above, "next": beside[:at][-1:], "behind": beside[:at], "over": inner,
+                  "has": below, "not": [part]}
+        if word in others:
+            return any(fulfils(other, test[1]) for other in others[word]) != (word == "not")
+        return {
+            "any": lambda: True, "name": lambda: part[2] == test[1], "mark": lambda: test[1] in dict(part[3]),
+            "value": lambda: test[1:] in part[3], "first": lambda: at == 0, "last": lambda: part is beside[-1],
+            "text": lambda: any(child[0] == "t" and child[2] == test[1] for child in part[4]),
+            "empty": lambda: part[4] == (), "both": lambda: all(fulfils(part, each) for each in test[1]),
+            "one": lambda: any(fulfils(part, each) for each in test[1])}[word]()
+    return [part[1] for part in parts_of(whole) if part[0] == "e" and fulfils(part, test)]

@@ -23,6 +23,11 @@ FUNCTIONS = {
     "rebuilding": {"rebuild": "whole, records"},
     "narrowing": {"narrowed": "first, wide, records, node, options"},
     "reversing": {"undone": "first, records"},
+    "queries": {"is_test": "value", "looks_back": "test", "names_of": "test", "marks_of": "test", "texts_of": "test",
+                "values_of": "test, mark", "subtests": "test"},
+    "matching": {"answer": "shape, test"},
+    "querytexts": {"parse_query": "text"},
+    "needs": {"options_of": "test", "may_touch": "test, view, record"},
 }
 CLASSES = {
     "documents": {"Document": {
