@@ -28,9 +28,9 @@ def answer(shape, test):
     tests = subtests(test)
     # Of each test, by the places of the elements, whether they fulfil it.
     held = []
-    for part in tests:
-        inner = [held[tests.index(deeper)] for deeper in tests_in(part)]
-        held.append(_held(places, part, inner))
+    for each in tests:
+        inner = [held[tests.index(deeper)] for deeper in tests_in(each)]
+        held.append(_held(places, each, inner))
     return [part[1] for part, holds in zip(places.parts, held[-1]) if holds]
 
 

@@ -28,6 +28,8 @@ FUNCTIONS = {
     "matching": {"answer": "shape, test"},
     "querytexts": {"parse_query": "text"},
     "needs": {"options_of": "test", "may_touch": "test, view, record"},
+    "touching": {"touching": "test, kind"},
+    "patches": {"patch": "first, second", "cost": "first, second", "staying": "first, second"},
 }
 CLASSES = {
     "documents": {"Document": {
@@ -40,6 +42,11 @@ CLASSES = {
         "__init__": "self, document", "observe": "self, node, options", "view": "self, number",
         "take": "self, number", "pause": "self"}},
     "rebuilding": {"Mirror": {"__init__": "self, first", "apply": "self, records", "view": "self"}},
+    "lists": {"LiveList": {
+        "__init__": "self, test, view", "answer": "self", "view": "self", "apply": "self, records", "asked": "self"}},
+    "desk": {"Desk": {
+        "__init__": "self, document", "look": "self, node, options", "keep": "self, node, test", "known": "self, number",
+        "found": "self, number", "pause": "self"}},
     "errors": {
         "LookError": {}, "InvalidArgument": {"__init__": "self, name"}, "NoSuchNode": {"__init__": "self, number"},
         "NoSuchObserver": {"__init__": "self, number"}, "RefusedError": {"__init__": "self, reason"},
